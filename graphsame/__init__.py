@@ -1,0 +1,1 @@
+"""Whether two graphs are the same."""
