@@ -4,12 +4,18 @@ A graph is a list of rows, one for each point: row u holds 1 at v if u and v are
 Both graphs stand in one list. Each call gives back the list of the numbers that it answers.
 """
 
-from graphsame.alike import final_parting, rounds_needed
+from graphsame.alike import depth_apart, even_graphs, least_alike, rounds_needed
 from graphsame.form import form_of
+from graphsame.maps import first_images
+from graphsame.movings import count_movings, least_moved_on
+from graphsame.ways import count_circles, count_trees, count_walks
 
 MOST_POINTS = 16
+MOST_STEPS = 64
+MOST_HUNG = 15
 DONE = 0
 REFUSED = -1
+THERE_IS_NONE = -2
 
 BEGIN = 0
 GRAPH = 1
@@ -18,9 +24,19 @@ DEGREE = 3
 TURN = 4
 SETTLE = 5
 CLASSES = 6
+ROUNDS = 7
+APART = 8
+REFINED = 9
+SAME = 10
+MOVINGS = 11
+ORBITS = 12
+WALKS = 13
+CIRCLES = 14
+TREES = 15
 
-# How many whole numbers stand behind each call's own number, from begin on.
-WIDTHS = (0, 2, 4, 2, 1, 1, 2, 1)
+# How many numbers stand behind each call's own, from begin on; of trees the last of them tells how many
+# more there are.
+WIDTHS = (0, 2, 4, 2, 1, 1, 2, 1, 2, 0, 1, 1, 2, 2, 2, 2)
 
 
 def is_graph(g):
@@ -108,7 +124,7 @@ def classes(graphs, g, most):
     if not is_graph(g):
         return [REFUSED]
     joined = graphs[g]
-    return [len(joined)] + first_numbers(final_parting(joined), most)
+    return [len(joined)] + first_numbers(least_alike(joined), most)
 
 
 def rounds(graphs, g):
@@ -118,8 +134,75 @@ def rounds(graphs, g):
     return [rounds_needed(graphs[g])]
 
 
+def apart(graphs, u, v):
+    """Tell the least depth at which u of graph 0 and v of graph 1 are not alike."""
+    if not has_point(graphs, 0, u) or not has_point(graphs, 1, v):
+        return [REFUSED]
+    depth = depth_apart(graphs[0], graphs[1], u, v)
+    return [THERE_IS_NONE if depth is None else depth]
+
+
+def refined(graphs):
+    """Tell whether both graphs have as many points of each part."""
+    return [0 if even_graphs(graphs[0], graphs[1]) is None else 1]
+
+
+def same(graphs, most):
+    """Count the points, then tell where the first map of graph 0 onto graph 1 puts each."""
+    images = first_images(graphs[0], graphs[1])
+    if images is None:
+        return [THERE_IS_NONE]
+    return [len(images)] + first_numbers(images, most)
+
+
+def movings(graphs, g):
+    """Count the movings of graph g."""
+    if not is_graph(g):
+        return [REFUSED]
+    return [DONE, count_movings(graphs[g])]
+
+
+def orbits(graphs, g, most):
+    """Count the points of graph g, then tell for each the least on which some moving puts it."""
+    if not is_graph(g):
+        return [REFUSED]
+    joined = graphs[g]
+    return [len(joined)] + first_numbers(least_moved_on(joined), most)
+
+
+def has_steps(k):
+    """Whether ways of k steps are counted."""
+    return 0 <= k and k <= MOST_STEPS
+
+
+def walks(graphs, g, k):
+    """Count the ways of k steps over graph g."""
+    if not is_graph(g) or not has_steps(k):
+        return [REFUSED]
+    return [DONE, count_walks(graphs[g], k)]
+
+
+def circles(graphs, g, k):
+    """Count the ways of k steps over graph g that end where they began."""
+    if not is_graph(g) or not has_steps(k):
+        return [REFUSED]
+    return [DONE, count_circles(graphs[g], k)]
+
+
+def is_tree(hung):
+    """Whether there are not too many points and each behind the first hangs on one before it."""
+    return len(hung) <= MOST_HUNG and all([0 <= hung[i] and hung[i] <= i for i in range(len(hung))])
+
+
+def trees(graphs, g, hung):
+    """Count how often the tree that hung tells lies in graph g."""
+    if not is_graph(g) or not is_tree(hung):
+        return [REFUSED]
+    return [DONE, count_trees(graphs[g], hung)]
+
+
 def answer(graphs, call, numbers):
-    """Carry out one call, whose own number is call, with its whole numbers."""
+    """Carry out one call, whose own number is call, with the numbers behind it."""
     if call == BEGIN:
         return begin(graphs)
     if call == GRAPH:
@@ -134,8 +217,32 @@ def answer(graphs, call, numbers):
         return settle(graphs, numbers[0])
     if call == CLASSES:
         return classes(graphs, numbers[0], numbers[1])
-    # Of the calls that WIDTHS knows, rounds alone is left.
-    return rounds(graphs, numbers[0])
+    if call == ROUNDS:
+        return rounds(graphs, numbers[0])
+    if call == APART:
+        return apart(graphs, numbers[0], numbers[1])
+    if call == REFINED:
+        return refined(graphs)
+    if call == SAME:
+        return same(graphs, numbers[0])
+    if call == MOVINGS:
+        return movings(graphs, numbers[0])
+    if call == ORBITS:
+        return orbits(graphs, numbers[0], numbers[1])
+    if call == WALKS:
+        return walks(graphs, numbers[0], numbers[1])
+    if call == CIRCLES:
+        return circles(graphs, numbers[0], numbers[1])
+    # Of the calls that WIDTHS knows, trees alone is left; its hung stands behind how many it has.
+    return trees(graphs, numbers[0], numbers[2:])
+
+
+def end_of_call(calls, at):
+    """Where the call that begins at this place ends in the line."""
+    end = at + 1 + WIDTHS[calls[at]]
+    if calls[at] == TREES:
+        return end + calls[end - 1]
+    return end
 
 
 def answers(calls):
@@ -144,10 +251,9 @@ def answers(calls):
     told = []
     at = 0
     while at < len(calls):
-        call = calls[at]
-        behind = at + 1 + WIDTHS[call]
-        numbers = answer(graphs, call, calls[at + 1:behind])
+        end = end_of_call(calls, at)
+        numbers = answer(graphs, calls[at], calls[at + 1:end])
         told.append(len(numbers))
         told.extend(numbers)
-        at = behind
+        at = end
     return told
